@@ -29,11 +29,15 @@ func equal(a, b any) bool {
 	if n, ok := b.(int); ok {
 		b = int64(n)
 	}
-	if x, ok := a.([]int64); ok {
-		y, ok := b.([]int64)
-		return ok && len(x) == len(y) && (len(x) == 0 || reflect.DeepEqual(x, y))
+	if isEmptyList(a) && isEmptyList(b) {
+		return reflect.TypeOf(a) == reflect.TypeOf(b)
 	}
 	return reflect.DeepEqual(a, b)
+}
+
+func isEmptyList(list any) bool {
+	value := reflect.ValueOf(list)
+	return value.Kind() == reflect.Slice && value.Len() == 0
 }
 
 // results makes a list of the results of a call.

@@ -69,8 +69,7 @@ func zeroIfError(t *testing.T, calls [][]any) {
 			continue
 		}
 		for _, result := range call[:len(call)-1] {
-			value := reflect.ValueOf(result)
-			if !value.IsZero() && !(value.Kind() == reflect.Slice && value.Len() == 0) {
+			if !reflect.ValueOf(result).IsZero() && !isEmptyList(result) {
 				t.Errorf("call %d: %v with the code %d", n, result, codeOf(call))
 			}
 		}
