@@ -26,6 +26,9 @@ func same(t *testing.T, name string, got []any, want ...any) {
 
 // equal takes a nil list and an empty one as equal, also as the phrases of a book, and an int as an int64.
 func equal(a, b any) bool {
+	if n, ok := a.(int); ok {
+		a = int64(n)
+	}
 	if n, ok := b.(int); ok {
 		b = int64(n)
 	}
