@@ -1,6 +1,7 @@
 package tests
 
 import (
+	"iter"
 	"math"
 	"reflect"
 	"testing"
@@ -77,6 +78,42 @@ func flagOfBlocks(colours [6]uint8) impl.Flag {
 		f[i] = colours[y/2*3+x/2]
 	}
 	return f
+}
+
+// everyText goes through all texts of these letters that are not longer than told, the shorter ones first.
+func everyText(letters string, longest int) iter.Seq[string] {
+	var from []int8
+	for _, letter := range []byte(letters) {
+		from = append(from, int8(letter))
+	}
+	return func(yield func(string) bool) {
+		for length := range longest + 1 {
+			for list := range everyList(from, length) {
+				text := make([]byte, length)
+				for i, letter := range list {
+					text[i] = byte(letter)
+				}
+				if !yield(string(text)) {
+					return
+				}
+			}
+		}
+	}
+}
+
+// changedTexts puts each of some letters in front of each letter of a text, and in its place; an empty one there leaves it out.
+func changedTexts(texts, letters []string) iter.Seq[string] {
+	return func(yield func(string) bool) {
+		for _, text := range texts {
+			for i := range len(text) {
+				for _, letter := range letters {
+					if !yield(text[:i]+letter+text[i:]) || !yield(text[:i]+letter+text[i+1:]) {
+						return
+					}
+				}
+			}
+		}
+	}
 }
 
 // numbers is a sequence that is the same each time.

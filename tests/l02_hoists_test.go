@@ -113,26 +113,18 @@ func TestReadHoistNoText(t *testing.T) {
 // TestReadHoistEveryShortText holds ReadHoist against a pattern of texts.
 func TestReadHoistEveryShortText(t *testing.T) {
 	words := regexp.MustCompile(`^(\d|[123]\d|s[1-4]|/)( (\d|[123]\d|s[1-4]|/))*$`)
-	letters := []int8{' ', '+', '-', '/', '0', '1', '3', '4', '9', 's'}
 	found := 0
-	for length := range 6 {
-		for list := range everyList(letters, length) {
-			var letter strings.Builder
-			for _, b := range list {
-				letter.WriteByte(byte(b))
-			}
-			text := letter.String()
-			h, code := impl.ReadHoist(text)
-			wanted := false
-			if words.MatchString(text) {
-				_, wanted = toldMeaning(readTold(text))
-			}
-			if wanted != (code == impl.OK) || wanted != (len(h) > 0) || wanted && toldText(h) != text {
-				t.Fatalf("%q: %v, code %d", text, h, code)
-			}
-			if wanted {
-				found++
-			}
+	for text := range everyText(" +-/01349s", 5) {
+		h, code := impl.ReadHoist(text)
+		wanted := false
+		if words.MatchString(text) {
+			_, wanted = toldMeaning(readTold(text))
+		}
+		if wanted != (code == impl.OK) || wanted != (len(h) > 0) || wanted && toldText(h) != text {
+			t.Fatalf("%q: %v, code %d", text, h, code)
+		}
+		if wanted {
+			found++
 		}
 	}
 	if found < 100 {

@@ -71,23 +71,18 @@ func TestPromise9NoText(t *testing.T) {
 	}
 }
 
-// TestPromise9ChangedTexts puts each of some letters in the place of each letter of a text, in front of it, and leaves it out.
 func TestPromise9ChangedTexts(t *testing.T) {
 	read, refused := 0, 0
-	for _, text := range []string{"-", "3x2 5x1 s1x1", "0x20 39x1", "1x1 s1x10 s4x9", "10x10 20x20 30x3 s2x2 s3x13"} {
-		for i := range len(text) {
-			for _, letter := range []string{"", " ", "-", "+", "/", "0", "1", "2", "3", "4", "5", "9", "s", "x", "\n", "\xff"} {
-				for _, changed := range []string{text[:i] + letter + text[i:], text[:i] + letter + text[i+1:]} {
-					want, valid := toldLocker(changed)
-					if valid {
-						same(t, strconv.Quote(changed), results(impl.ReadLocker(changed)), want, impl.OK)
-						read++
-					} else {
-						same(t, strconv.Quote(changed), results(impl.ReadLocker(changed)), impl.Locker{}, impl.ErrSyntax)
-						refused++
-					}
-				}
-			}
+	texts := []string{"-", "3x2 5x1 s1x1", "0x20 39x1", "1x1 s1x10 s4x9", "10x10 20x20 30x3 s2x2 s3x13"}
+	letters := []string{"", " ", "-", "+", "/", "0", "1", "2", "3", "4", "5", "9", "s", "x", "\n", "\xff"}
+	for changed := range changedTexts(texts, letters) {
+		want, valid := toldLocker(changed)
+		if valid {
+			same(t, strconv.Quote(changed), results(impl.ReadLocker(changed)), want, impl.OK)
+			read++
+		} else {
+			same(t, strconv.Quote(changed), results(impl.ReadLocker(changed)), impl.Locker{}, impl.ErrSyntax)
+			refused++
 		}
 	}
 	if read < 100 || refused < 100 {
@@ -98,21 +93,14 @@ func TestPromise9ChangedTexts(t *testing.T) {
 // TestPromise9EveryShortText holds ReadLocker against a pattern of texts.
 func TestPromise9EveryShortText(t *testing.T) {
 	found := 0
-	for length := range 8 {
-		for list := range everyList([]int8{' ', '-', '0', '1', '4', 's', 'x'}, length) {
-			var letters strings.Builder
-			for _, b := range list {
-				letters.WriteByte(byte(b))
-			}
-			text := letters.String()
-			want, valid := toldLocker(text)
-			l, code := impl.ReadLocker(text)
-			if valid != (code == impl.OK) || !valid && code != impl.ErrSyntax || l != want {
-				t.Fatalf("%q: %v, code %d", text, l, code)
-			}
-			if valid {
-				found++
-			}
+	for text := range everyText(" -014sx", 7) {
+		want, valid := toldLocker(text)
+		l, code := impl.ReadLocker(text)
+		if valid != (code == impl.OK) || !valid && code != impl.ErrSyntax || l != want {
+			t.Fatalf("%q: %v, code %d", text, l, code)
+		}
+		if valid {
+			found++
 		}
 	}
 	// "-", one word with 6 kinds or 2 substitutes and 5 numbers, and two words with 2 of 3 kinds and 2 numbers each
