@@ -116,6 +116,26 @@ func changedTexts(texts, letters []string) iter.Seq[string] {
 	}
 }
 
+// readAsTold checks that texts are read as they are told, and refused if they are told to be none's. It returns how many are read, and how many are not.
+func readAsTold[T any](t *testing.T, texts iter.Seq[string], told func(text string) (T, bool), read func(text string) (T, int64)) (int, int) {
+	t.Helper()
+	accepted, refused := 0, 0
+	for text := range texts {
+		code := int64(impl.OK)
+		want, valid := told(text)
+		if valid {
+			accepted++
+		} else {
+			code = impl.ErrSyntax
+			refused++
+		}
+		if got, found := read(text); found != code || !equal(got, want) {
+			t.Fatalf("%q: got %v with the code %d, want %v", text, got, found, want)
+		}
+	}
+	return accepted, refused
+}
+
 // numbers is a sequence that is the same each time.
 type numbers uint64
 

@@ -60,19 +60,9 @@ func TestPromise6NoText(t *testing.T) {
 }
 
 func TestPromise6ChangedTexts(t *testing.T) {
-	read, refused := 0, 0
 	texts := []string{"3 2 0\nyes\nno\n", "10 3 4\n", "1 3 2\na\nb\nc\n", "2 1 4\nab\nb\n", impl.BookText(filled(2, 2, 0, 4))}
 	letters := []string{"", "\n", " ", "0", "1", "2", "3", "4", "5", "-", "+", "~", "\x7f", "\x1f", "b", "\xff"}
-	for changed := range changedTexts(texts, letters) {
-		want, valid := toldBook(changed)
-		if valid {
-			same(t, strconv.Quote(changed), results(impl.ReadBook(changed)), want, impl.OK)
-			read++
-		} else {
-			same(t, strconv.Quote(changed), results(impl.ReadBook(changed)), impl.Book{}, impl.ErrSyntax)
-			refused++
-		}
-	}
+	read, refused := readAsTold(t, changedTexts(texts, letters), toldBook, impl.ReadBook)
 	if read < 100 || refused < 100 {
 		t.Errorf("%d texts are books', %d are not", read, refused)
 	}
@@ -80,17 +70,13 @@ func TestPromise6ChangedTexts(t *testing.T) {
 
 // TestPromise6EveryFirstLine holds ReadBook against all short lines of some letters.
 func TestPromise6EveryFirstLine(t *testing.T) {
-	found := 0
-	for line := range everyText(" -0135", 6) {
-		text := line + "\n"
-		want, valid := toldBook(text)
-		b, code := impl.ReadBook(text)
-		if valid != (code == impl.OK) || !valid && code != impl.ErrSyntax || !toldSameBook(b, want) {
-			t.Fatalf("%q: %v, code %d", text, b, code)
-		}
-		if valid {
-			found++
+	lines := func(yield func(string) bool) {
+		for line := range everyText(" -0135", 6) {
+			if !yield(line + "\n") {
+				return
+			}
 		}
 	}
+	found, _ := readAsTold(t, lines, toldBook, impl.ReadBook)
 	same(t, "how many are books'", results(int64(found)), 4*2*3) // with the kinds 1, 3, 5 and 10, the lengths 1 and 3, and 0, 1 or 3 substitutes
 }

@@ -72,19 +72,9 @@ func TestPromise9NoText(t *testing.T) {
 }
 
 func TestPromise9ChangedTexts(t *testing.T) {
-	read, refused := 0, 0
 	texts := []string{"-", "3x2 5x1 s1x1", "0x20 39x1", "1x1 s1x10 s4x9", "10x10 20x20 30x3 s2x2 s3x13"}
 	letters := []string{"", " ", "-", "+", "/", "0", "1", "2", "3", "4", "5", "9", "s", "x", "\n", "\xff"}
-	for changed := range changedTexts(texts, letters) {
-		want, valid := toldLocker(changed)
-		if valid {
-			same(t, strconv.Quote(changed), results(impl.ReadLocker(changed)), want, impl.OK)
-			read++
-		} else {
-			same(t, strconv.Quote(changed), results(impl.ReadLocker(changed)), impl.Locker{}, impl.ErrSyntax)
-			refused++
-		}
-	}
+	read, refused := readAsTold(t, changedTexts(texts, letters), toldLocker, impl.ReadLocker)
 	if read < 100 || refused < 100 {
 		t.Errorf("%d texts are lockers', %d are not", read, refused)
 	}
@@ -92,17 +82,7 @@ func TestPromise9ChangedTexts(t *testing.T) {
 
 // TestPromise9EveryShortText holds ReadLocker against a pattern of texts.
 func TestPromise9EveryShortText(t *testing.T) {
-	found := 0
-	for text := range everyText(" -014sx", 7) {
-		want, valid := toldLocker(text)
-		l, code := impl.ReadLocker(text)
-		if valid != (code == impl.OK) || !valid && code != impl.ErrSyntax || l != want {
-			t.Fatalf("%q: %v, code %d", text, l, code)
-		}
-		if valid {
-			found++
-		}
-	}
+	found, _ := readAsTold(t, everyText(" -014sx", 7), toldLocker, impl.ReadLocker)
 	// "-", one word with 6 kinds or 2 substitutes and 5 numbers, and two words with 2 of 3 kinds and 2 numbers each
 	same(t, "how many are lockers'", results(int64(found)), 1+(6+2)*5+3*2*2)
 }

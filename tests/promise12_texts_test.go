@@ -4,7 +4,6 @@ import (
 	"fmt"
 	"math"
 	"regexp"
-	"slices"
 	"strconv"
 	"strings"
 	"testing"
@@ -152,19 +151,9 @@ func TestPromise12NoText(t *testing.T) {
 }
 
 func TestPromise12ChangedTexts(t *testing.T) {
-	read, refused := 0, 0
 	texts := []string{"0", "36", "1 2", "10 20 30", "0 0 0 0 0 0 0 0", "36 36 36 36 36 36 36 36", "1 10 11 2 35 9"}
 	letters := []string{"", " ", "-", "+", "/", "0", "1", "2", "3", "6", "7", "9", "x", "\n", "\xff"}
-	for changed := range changedTexts(texts, letters) {
-		want, valid := toldReadWord(changed)
-		if valid {
-			same(t, strconv.Quote(changed), results(impl.ReadWord(changed)), want, impl.OK)
-			read++
-		} else {
-			same(t, strconv.Quote(changed), results(impl.ReadWord(changed)), impl.Word(nil), impl.ErrSyntax)
-			refused++
-		}
-	}
+	read, refused := readAsTold(t, changedTexts(texts, letters), toldReadWord, impl.ReadWord)
 	if read < 100 || refused < 100 {
 		t.Errorf("%d texts are words', %d are not", read, refused)
 	}
@@ -172,17 +161,7 @@ func TestPromise12ChangedTexts(t *testing.T) {
 
 // TestPromise12EveryShortText holds ReadWord against a pattern of texts.
 func TestPromise12EveryShortText(t *testing.T) {
-	found := 0
-	for text := range everyText(" +-0367", 6) {
-		want, valid := toldReadWord(text)
-		w, code := impl.ReadWord(text)
-		if valid != (code == impl.OK) || !valid && code != impl.ErrSyntax || !slices.Equal(w, want) {
-			t.Fatalf("%q: %v, code %d", text, w, code)
-		}
-		if valid {
-			found++
-		}
-	}
+	found, _ := readAsTold(t, everyText(" +-0367", 6), toldReadWord, impl.ReadWord)
 	// 4 letters have one digit, and 3 have two: there are words of one letter, of two with 3 to 5 bytes, and of three with 5 or 6.
 	same(t, "how many are words'", results(int64(found)), 4+3+4*4+2*4*3+3*3+4*4*4+3*4*4*3)
 }
